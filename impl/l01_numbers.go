@@ -114,7 +114,8 @@ func (x Num) negated() Num {
 	return Num{A: -x.A, B: -x.B, K: x.K}
 }
 
-// plus returns the sum of valid numbers, which need not be in lowest terms or within the limits.
+// plus returns the sum, which need not be in lowest terms or within the limits. Neither need x and y,
+// as long as no part overflows; this also applies to times and over.
 func (x Num) plus(y Num) Num {
 	k := max(x.K, y.K)
 	return Num{
@@ -124,7 +125,7 @@ func (x Num) plus(y Num) Num {
 	}
 }
 
-// times returns the product of valid numbers, which need not be in lowest terms or within the limits.
+// times returns the product, which need not be in lowest terms or within the limits.
 func (x Num) times(y Num) Num {
 	return Num{
 		A: x.A*y.A + 2*x.B*y.B,
@@ -133,8 +134,8 @@ func (x Num) times(y Num) Num {
 	}
 }
 
-// over returns the quotient of valid numbers, where y is not 0, and whether it is a number of this
-// kind; it need not be in lowest terms or within the limits.
+// over returns the quotient, where y is not 0, and whether it is a number of this kind; it need not be
+// in lowest terms or within the limits.
 func (x Num) over(y Num) (Num, bool) {
 	// Both are multiplied by A - B r of y, which turns the divisor into the integer norm.
 	conjugate := Num{A: y.A, B: -y.B}
@@ -328,12 +329,21 @@ func readPower(s string) int64 {
 
 // withoutParentheses returns what is between the parentheses that enclose s, or s if there are none.
 func withoutParentheses(s string) string {
-	inner, opened := strings.CutPrefix(s, "(")
-	inner, closed := strings.CutSuffix(inner, ")")
-	if !opened || !closed {
+	inner, enclosed := inParentheses(s)
+	if !enclosed {
 		return s
 	}
 	return inner
+}
+
+// inParentheses returns what is between the parentheses that enclose s, and whether there are any.
+func inParentheses(s string) (string, bool) {
+	inner, opened := strings.CutPrefix(s, "(")
+	inner, closed := strings.CutSuffix(inner, ")")
+	if !opened || !closed {
+		return "", false
+	}
+	return inner, true
 }
 
 // readParts returns A and B of the text A, B and r, or A, the sign of B, its absolute value and r.

@@ -212,23 +212,7 @@ func TestPromise2TextsAreReadBack(t *testing.T) {
 			t.Errorf("%v and %v have the text %q", x, other, s)
 		}
 		seen[s] = x
-		checkChangedTexts(t, s)
-	}
-}
-
-// checkChangedTexts reads all texts that differ from s in one byte.
-func checkChangedTexts(t *testing.T, s string) {
-	t.Helper()
-	for i := range len(s) + 1 {
-		for _, c := range []byte("0124789+-r/() ") {
-			checkText(t, s[:i]+string(c)+s[i:])
-			if i < len(s) {
-				checkText(t, s[:i]+string(c)+s[i+1:])
-			}
-		}
-		if i < len(s) {
-			checkText(t, s[:i]+s[i+1:])
-		}
+		forEachChange(s, "0124789+-r/() ", func(s string) { checkText(t, s) })
 	}
 }
 
