@@ -12,23 +12,25 @@ import (
 // Promise 1 for chapter 3: every function returns, repeats its result, changes no argument, and keeps
 // no memory of one.
 
-// guard returns a copy of list with some unused capacity, and a function that reports whether both
-// are unchanged.
-func guard(list []impl.Point) ([]impl.Point, func() bool) {
-	whole := make([]impl.Point, len(list)+20)
-	copy(whole, list)
-	for i := len(list); i < len(whole); i++ {
-		whole[i] = impl.Point{X: impl.Num{A: 77, B: int64(i)}}
-	}
+// sparePoint fills the unused capacity of arguments, and markedPoint overwrites results.
+var (
+	sparePoint  = impl.Point{X: impl.Num{A: 77}}
+	markedPoint = impl.Point{X: impl.Num{A: -99}, Y: impl.Num{B: -99}}
+)
+
+// guard returns a copy of list with some unused capacity, which is filled with spare, and a function
+// that reports whether both are unchanged.
+func guard[T comparable](list []T, spare T) ([]T, func() bool) {
+	whole := slices.Concat(list, slices.Repeat([]T{spare}, 20))
 	before := slices.Clone(whole)
 	return whole[:len(list)], func() bool { return slices.Equal(whole, before) }
 }
 
-// overwrite fills a result and its unused capacity.
-func overwrite(list []impl.Point) {
+// overwrite fills a result and its unused capacity with marked.
+func overwrite[T any](list []T, marked T) {
 	whole := list[:cap(list)]
 	for i := range whole {
-		whole[i] = impl.Point{X: impl.Num{A: -99}, Y: impl.Num{B: -99}}
+		whole[i] = marked
 	}
 }
 
@@ -62,12 +64,12 @@ func polygonCalls(l impl.Line, p, q impl.Point) map[string]polygonCall {
 
 func checkPure(t *testing.T, name string, call polygonCall, a, b []impl.Point) {
 	t.Helper()
-	first, firstKept := guard(a)
-	second, secondKept := guard(b)
+	first, firstKept := guard(a, sparePoint)
+	second, secondKept := guard(b, sparePoint)
 	lists, want := call(first, second)
 	for i, list := range lists {
 		others := slices.Concat(slices.Concat(lists[:i]...), slices.Concat(lists[i+1:]...))
-		overwrite(list)
+		overwrite(list, markedPoint)
 		if !slices.Equal(others, slices.Concat(slices.Concat(lists[:i]...), slices.Concat(lists[i+1:]...))) {
 			t.Errorf("%s: result %d shares memory with another one for %v and %v", name, i, a, b)
 		}
@@ -79,9 +81,9 @@ func checkPure(t *testing.T, name string, call polygonCall, a, b []impl.Point) {
 		t.Errorf("%s: the results for %v and %v are %s and %s", name, a, b, want, got)
 	}
 	// One list as both arguments.
-	whole, kept := guard(a)
+	whole, kept := guard(a, sparePoint)
 	if lists, _ := call(whole, whole); len(lists) > 0 {
-		overwrite(lists[0])
+		overwrite(lists[0], markedPoint)
 	}
 	if !kept() {
 		t.Errorf("%s changes an argument, or a result shares its memory, for twice %v", name, a)
@@ -104,7 +106,7 @@ func TestPromise1PolygonsAreNotChangedOrShared(t *testing.T) {
 	for side := range int64(5) {
 		square, _ := impl.SquarePaper(side)
 		again, _ := impl.SquarePaper(side)
-		overwrite(square)
+		overwrite(square, markedPoint)
 		if once, _ := impl.SquarePaper(side); !slices.Equal(again, once) {
 			t.Errorf("two results of SquarePaper(%d) share memory", side)
 		}
