@@ -136,7 +136,7 @@ func checkReadPattern(t *testing.T, s string) bool {
 	return ok
 }
 
-func TestPromise1TheLibraryIsBuiltOnce(t *testing.T) {
+func TestPromise1TheLibraryIsTheSameForAll(t *testing.T) {
 	names := impl.LibraryNames()
 	texts := make([]string, 40)
 	var group sync.WaitGroup
