@@ -1,7 +1,6 @@
 package tests
 
 import (
-	"fmt"
 	"math"
 	"slices"
 	"testing"
@@ -25,19 +24,7 @@ func facesResults(p impl.Pattern, a, b int64, q impl.Point) map[string]func() re
 	return map[string]func() result{
 		"FacesOf": func() result {
 			faces, code := impl.FacesOf(p)
-			// The list of all faces is shown by their lengths, which do not change with their points.
-			lengths := func() string {
-				text := ""
-				for _, face := range faces {
-					text += fmt.Sprint(len(face), ";")
-				}
-				return text
-			}
-			var lists []shownList
-			for _, face := range faces {
-				lists = append(lists, listOf(face, markedPoint))
-			}
-			return resultOf(append(lists, shownList{lengths, func() { overwrite(faces, nil) }}), code)
+			return resultOf(rowsOf(faces, markedPoint), code)
 		},
 		"NeighboursOf": func() result {
 			joints, code := impl.NeighboursOf(p)

@@ -13,7 +13,7 @@ import (
 // no memory of one.
 
 // rowsOf shows a list of lists: each of its lists by itself, and the outer one by their lengths.
-func rowsOf(rows [][]int64) []shownList {
+func rowsOf[T any](rows [][]T, marked T) []shownList {
 	lengths := func() string {
 		text := ""
 		for _, row := range rows {
@@ -23,7 +23,7 @@ func rowsOf(rows [][]int64) []shownList {
 	}
 	var lists []shownList
 	for _, row := range rows {
-		lists = append(lists, listOf(row, -99))
+		lists = append(lists, listOf(row, marked))
 	}
 	return append(lists, shownList{lengths, func() { overwrite(rows, nil) }})
 }
@@ -40,11 +40,11 @@ func coneResults(cone, kinds, order []int64) map[string]func() result {
 		},
 		"AssignmentsOf": func() result {
 			all, code := impl.AssignmentsOf(cone)
-			return resultOf(rowsOf(all), code)
+			return resultOf(rowsOf(all, -99), code)
 		},
 		"SectorOrders": func() result {
 			all, code := impl.SectorOrders(cone, kinds)
-			return resultOf(rowsOf(all), code)
+			return resultOf(rowsOf(all, -99), code)
 		},
 		"KindsOfOrder": func() result {
 			found, ok := impl.KindsOfOrder(cone, order)
